@@ -1,0 +1,1 @@
+"""Colourings counted: those that exchanges of places take to one another count once."""

@@ -3,11 +3,9 @@
 import itertools
 import unittest
 
-from lines import FAR_OUT, GROUP, KINDS, ORBITS, answered, count, last, places, turn
-
-NECKLACE_OF_EIGHT = (places(8), turn(1, 2, 3, 4, 5, 6, 7, 0), turn(7, 6, 5, 4, 3, 2, 1, 0))
-DIE = (places(6), turn(0, 2, 4, 1, 3, 5), turn(1, 5, 2, 3, 0, 4))
-BOARD_OF_NINE = (places(9), turn(2, 5, 8, 1, 4, 7, 0, 3, 6), turn(2, 1, 0, 5, 4, 3, 8, 7, 6))
+from lines import (
+    BOARD_OF_NINE, DIE, FAR_OUT, GROUP, KINDS, NECKLACE_OF_EIGHT, ORBITS, TWO_HUNDRED, all_made, answered, count,
+    last, moved, places, turn)
 
 
 class Count(unittest.TestCase):
@@ -35,28 +33,8 @@ class Count(unittest.TestCase):
                 [[-1], [2, 0, 1, 1, 0], [6]])
 
     def test_of_a_group_of_two_hundred(self):
-        # Two rings of five that may be swapped: of c necklaces each there are c * (c + 1) / 2 pairs.
-        calls = (
-            places(10), turn(1, 2, 3, 4, 0, 5, 6, 7, 8, 9), turn(0, 4, 3, 2, 1, 5, 6, 7, 8, 9),
-            turn(5, 6, 7, 8, 9, 0, 1, 2, 3, 4))
-        self.assertEqual(answered(*calls, count(2), count(3))[3:], [[200], [8 * 9 // 2], [39 * 40 // 2]])
-
-
-def all_made(told, n):
-    """The group as a set, by putting each two together until nothing new is made."""
-    made = {tuple(range(n)), *told}
-    while True:
-        more = {tuple(b[a[i]] for i in range(n)) for a in made for b in made}
-        if more == made:
-            return made
-        made = more
-
-
-def moved(colouring, exchange):
-    there = [None] * len(colouring)
-    for place, goes_to in enumerate(exchange):
-        there[goes_to] = colouring[place]
-    return tuple(there)
+        # Two necklaces that may be swapped: of c kinds of each there are c * (c + 1) / 2 pairs.
+        self.assertEqual(answered(*TWO_HUNDRED, count(2), count(3))[3:], [[200], [8 * 9 // 2], [39 * 40 // 2]])
 
 
 def ring_lengths(exchange):
@@ -78,7 +56,7 @@ class AgainstAllOneByOne(unittest.TestCase):
         answer = answered(places(n), *[turn(*one) for one in told], GROUP, ORBITS, KINDS, count(2), count(3))
         got = answer[len(told):]
         self.assertEqual(got[0], [len(group)] if told else [n])
-        self.assertEqual(got[1], [len(group), *itertools.chain(*sorted(group))])
+        self.assertEqual(got[1], [len(group), *itertools.chain(*group)])
         orbits = sorted({tuple(sorted({g[place] for g in group})) for place in range(n)})
         self.assertEqual(got[2], [len(orbits), *itertools.chain(*[(len(o), *o) for o in orbits])])
         kinds = [ring_lengths(g) for g in group]

@@ -39,6 +39,18 @@ def trees():
             yield f"{path.name}:{getattr(node, 'lineno', 0)}", node
 
 
+def names_called(tree, names):
+    """Each call of one of the names, with the node in which it stands."""
+    for around in ast.walk(tree):
+        for node in ast.iter_child_nodes(around):
+            if isinstance(node, ast.Call) and isinstance(node.func, ast.Name) and node.func.id in names:
+                yield f"line {node.lineno}", node, around
+
+
+def is_call_of(node, names):
+    return isinstance(node, ast.Call) and isinstance(node.func, ast.Name) and node.func.id in names
+
+
 class Files(unittest.TestCase):
     def test_only_plainly_named_files_lie_in_the_package(self):
         names = [path.name for path in package_files()]
@@ -97,6 +109,43 @@ class Code(unittest.TestCase):
         for where, node in trees():
             if isinstance(node, ast.Call) and isinstance(node.func, ast.Attribute):
                 self.assertIn(node.func.attr, METHODS, where)
+
+    def test_is_stands_beside_none_true_and_false_alone(self):
+        for where, node in trees():
+            if isinstance(node, ast.Compare) and any(isinstance(sign, (ast.Is, ast.IsNot)) for sign in node.ops):
+                self.assertIsInstance(node.comparators[0], ast.Constant, where)
+
+    def test_what_is_walked_at_once(self):
+        for path in package_files():
+            tree = ast.parse(path.read_text(encoding="utf-8"))
+            for where, node, around in names_called(tree, {"zip", "enumerate", "reversed", "range"}):
+                if isinstance(around, (ast.For, ast.comprehension)):
+                    self.assertIs(around.iter, node, where)
+                else:
+                    outer = {"list", "tuple", "dict", "sorted", "sum", "any", "all", "enumerate", "zip"}
+                    self.assertTrue(is_call_of(around, outer) and around.args[0] is node, where)
+
+    def test_sets_are_not_kept(self):
+        for path in package_files():
+            tree = ast.parse(path.read_text(encoding="utf-8"))
+            for where, node, around in names_called(tree, {"set", "frozenset"}):
+                self.assertTrue(isinstance(around, ast.Compare) or is_call_of(around, {"sorted", "len"}), where)
+
+    def test_the_top_of_a_file(self):
+        for path in package_files():
+            bound = []
+            for node in ast.parse(path.read_text(encoding="utf-8")).body:
+                if isinstance(node, ast.Assign):
+                    ast.literal_eval(node.value)
+                    bound.append(node.targets[0].id)
+                elif isinstance(node, (ast.FunctionDef, ast.ClassDef)):
+                    bound.append(node.name)
+                else:
+                    self.assertIsInstance(node.value.value, str, path.name)
+            self.assertEqual(sorted(bound), sorted(set(bound)), path.name)
+            for name in bound:
+                self.assertRegex(name, r"^[A-Za-z][A-Za-z0-9_]*$")
+                self.assertNotIn(name, dir(builtins))
 
 
 if __name__ == "__main__":

@@ -2,12 +2,9 @@
 
 import unittest
 
-from lines import GROUP, KINDS, ORBITS, answered, last, places, turn
+from lines import DIE, GROUP, KINDS, NECKLACE_OF_SIX, ORBITS, answered, last, places, turn
 
 ALL_OF_FOUR = (places(4), turn(1, 2, 3, 0), turn(1, 0, 2, 3))
-# Faces 0 and 5, 1 and 4, 2 and 3 of the die lie across from one another.
-DIE = (places(6), turn(0, 2, 4, 1, 3, 5), turn(1, 5, 2, 3, 0, 4))
-NECKLACE_OF_SIX = (places(6), turn(1, 2, 3, 4, 5, 0), turn(5, 4, 3, 2, 1, 0))
 
 
 class Group(unittest.TestCase):

@@ -2,13 +2,10 @@
 
 import unittest
 
-from lines import FAR_OUT, GROUP, ORBITS, answered, last, places, turn
+from lines import FAR_OUT, GROUP, ORBITS, TWO_HUNDRED, answered, last, places, turn
 
 TEN = tuple(range(10))
-FIRST_FIVE_ROUND = (1, 2, 3, 4, 0, 5, 6, 7, 8, 9)
-FIRST_FIVE_OVER = (0, 4, 3, 2, 1, 5, 6, 7, 8, 9)
 HALVES = (5, 6, 7, 8, 9, 0, 1, 2, 3, 4)
-TWO_HUNDRED = (places(10), turn(*FIRST_FIVE_ROUND), turn(*FIRST_FIVE_OVER), turn(*HALVES))
 
 
 def swapped(n, one, other):
